@@ -1,0 +1,1 @@
+"""Fewladders: things of which some lie above others, told as few ladders."""
